@@ -1,0 +1,1 @@
+"""Behindboth: sources merged by outer joins so that nothing that fits is lost."""

@@ -1,0 +1,106 @@
+"""What several tests use: odd values, small random books and data, and a plain own search."""
+
+import unittest
+from itertools import product
+
+AB_BC = ((0, 1), (1, 2))
+AB_BC_CD = ((0, 1), (1, 2), (2, 3))
+TRIANGLE = ((0, 1), (1, 2), (0, 2))
+F = ((0, 1, 2), (0, 1, 3), (0, 4, 5), (0, 4, 6))
+APART = ((0, 1), (1, 2), (3,), (2, 4))
+TWELVE = tuple((k, k + 1) for k in range(12))
+
+
+def nested(deep):
+    thing = ()
+    for _ in range(deep - 1):
+        thing = (thing,)
+    return thing
+
+
+def forked(deep, leaf=0):
+    thing = leaf
+    for _ in range(deep):
+        thing = (thing, leaf)
+    return thing
+
+
+def doubled(deep):
+    """A pair of pairs, with 2 ** deep parts at the bottom."""
+    thing = 0
+    for _ in range(deep):
+        thing = (thing, thing)
+    return thing
+
+
+ODD = (
+    None, True, False, 0, 1, -1, 24, 10 ** 999, -10 ** 999, "", "0", "plan", "x" * 1000,
+    (), (None,), (True,), (False,), (-1,), (24,), ("0",), ((),), ((0,), (0,), 0), ((), ()), ("fork", 0),
+    (True, 0), (0, True), (0, 0), (1, 0), (None, None), (0, None), ((True,),), (((),),), ((((), True),),),
+    nested(50), forked(49), forked(49, "x"), (nested(49), nested(49)), doubled(15),
+    (0,) * 99999, (None,) * 99999, tuple(range(99999)), ((0, 1),) * 33000, ((),) * 99998, ("x",) * 99999,
+    ((0,) * 99998,), (tuple(range(99998)),), ((None,) * 99998,), (((0,),) * 49998,), (True,) * 12, (None,) * 12,
+)
+
+
+class Case(unittest.TestCase):
+    """Tests of what is refused."""
+
+    def refused(self, error, what, function, *arguments, **named):
+        with self.assertRaises(error) as caught:
+            function(*arguments, **named)
+        self.assertIs(caught.exception.__class__, error)
+        self.assertEqual(repr(caught.exception.what), repr(what))
+
+    def is_bool(self, wanted, got):
+        self.assertIs(got, wanted)
+
+
+def random_book(random, most_sources, most_columns, most_in_scheme):
+    book = []
+    for _ in range(random.randint(1, most_sources)):
+        many = random.randint(1, min(most_columns, most_in_scheme))
+        book.append(tuple(sorted(random.sample(range(most_columns), many))))
+    return tuple(book)
+
+
+def random_data(random, book, most_rows, worths):
+    data = []
+    for scheme in book:
+        rows = []
+        for _ in range(random.randint(0, most_rows)):
+            row = tuple(random.randrange(worths) for _ in scheme)
+            if row not in rows:
+                rows.append(row)
+        data.append(tuple(rows))
+    return tuple(data)
+
+
+def in_order(tags):
+    return [-1 if tag is None else tag for tag in tags]
+
+
+def plain_is_lot(book, data, tags):
+    there = [source for source in range(len(book)) if tags[source] is not None]
+    rows = {s: dict(zip(book[s], data[s][tags[s]])) for s in there}
+    for s in there:
+        for t in there:
+            if any(rows[s][c] != rows[t][c] for c in rows[s] if c in rows[t]):
+                return False
+    reached = there[:1]
+    for _ in there:
+        for s in there:
+            if s not in reached and any(set(book[s]) & set(book[t]) for t in reached):
+                reached.append(s)
+    return bool(there) and len(reached) == len(there)
+
+
+def plain_lies(one, two):
+    return all(a is None or a == b for a, b in zip(one, two))
+
+
+def plain_whole(book, data):
+    choices = [[None] + list(range(len(rows))) for rows in data]
+    lots = [tags for tags in product(*choices) if plain_is_lot(book, data, tags)]
+    best = [one for one in lots if not any(one != two and plain_lies(one, two) for two in lots)]
+    return tuple(sorted(best, key=in_order))
