@@ -104,3 +104,105 @@ def plain_whole(book, data):
     lots = [tags for tags in product(*choices) if plain_is_lot(book, data, tags)]
     best = [one for one in lots if not any(one != two and plain_lies(one, two) for two in lots)]
     return tuple(sorted(best, key=in_order))
+
+
+def plain_shown(book, data, tags):
+    """What tags show, as a dict from column to worth."""
+    worths = {}
+    for source in reversed(range(len(book))):
+        if tags[source] is not None:
+            worths.update(zip(book[source], data[source][tags[source]]))
+    return worths
+
+
+def plain_holds(condition, fork, left, right):
+    word, c = condition[:2]
+    return {
+        "fork": fork == c,
+        "left": c in left,
+        "right": c in right,
+        "both": c in left and c in right,
+        "none": c not in left and c not in right,
+        "worth": condition[-1] in (left.get(c, -1), right.get(c, -1)),
+        "least": len(set(left) & set(right)) >= c,
+    }[word]
+
+
+def plain_answer(rule, fork, left, right):
+    for conditions, said in rule:
+        if all([plain_holds(condition, fork, left, right) for condition in conditions]):
+            return said
+    return False
+
+
+def plain_says(rule, fork, z, left, right):
+    both = [column for column in range(24) if column in left and column in right]
+    if [column for column in both if left[column] != right[column]]:
+        return False
+    if not both:
+        return False
+    if set(z) <= set(both):
+        return True
+    return plain_answer(rule, fork, left, right)
+
+
+def plain_sources(plan):
+    return [plan] if isinstance(plan, int) else plain_sources(plan[0]) + plain_sources(plan[1])
+
+
+def plain_stages(book, data, plan, pair):
+    """The results of all forks; pair(fork, sides, left, right) gives the pairs of tags that are paired."""
+    found = []
+
+    def result(part):
+        if isinstance(part, int):
+            return [tuple(tag if s == part else None for s in range(len(book))) for tag in range(len(data[part]))]
+        left, right = result(part[0]), result(part[1])
+        pairs = pair(len(found), (plain_sources(part[0]), plain_sources(part[1])), left, right)
+        rows = [tuple(b if a is None else a for a, b in zip(one, two)) for one, two in pairs]
+        rows += [one for one in left if one not in [pair[0] for pair in pairs]]
+        rows += [two for two in right if two not in [pair[1] for pair in pairs]]
+        found.append(tuple(sorted(rows, key=in_order)))
+        return found[-1]
+
+    last = result(plan)
+    return tuple(found), tuple(last)
+
+
+def plain_run(book, data, plan, rule):
+    def pair(fork, sides, left, right):
+        columns = [{column for source in side for column in book[source]} for side in sides]
+        z = columns[0] & columns[1]
+        return [
+            (one, two) for one in left for two in right
+            if plain_says(rule, fork, z, plain_shown(book, data, one), plain_shown(book, data, two))
+        ]
+    return plain_stages(book, data, plan, pair)
+
+
+def random_plan(random, sources):
+    if len(sources) == 1:
+        return sources[0]
+    at = random.randrange(1, len(sources))
+    return (random_plan(random, sources[:at]), random_plan(random, sources[at:]))
+
+
+def random_part(random, book):
+    sources = random.sample(range(len(book)), random.randint(1, len(book)))
+    return random_plan(random, sources)
+
+
+def random_rule(random, most_columns, worths):
+    rows = []
+    for _ in range(random.randint(0, 5)):
+        conditions = []
+        for _ in range(random.randint(0, 3)):
+            word = random.choice(("fork", "left", "right", "both", "none", "worth", "worth", "least"))
+            if word in ("fork", "least"):
+                conditions.append((word, random.randrange(4)))
+            elif word == "worth":
+                conditions.append((word, random.randrange(most_columns), random.randrange(worths)))
+            else:
+                conditions.append((word, random.randrange(most_columns)))
+        rows.append((tuple(conditions), random.random() < 0.6))
+    return tuple(rows)

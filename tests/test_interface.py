@@ -12,6 +12,17 @@ INTERFACE = {
         "quarrel(book, data, one, two)",
     ),
     "lots": ("is_lot(book, data, thing)", "lies_in(one, two)"),
+    "whole": ("whole(book, data)", "is_whole(book, data, thing)"),
+    "plans": (
+        "made_plan(book, thing)", "made_part(book, thing)", "is_plan(book, thing)", "leaves(plan)", "forks(plan)",
+        "cut(plan, group)", "plain(plan)", "plan_of(order)",
+    ),
+    "rules": (
+        "made_rule(thing)", "is_rule(thing)", "answer(rule, fork, left, right)", "says(book, rule, fork, z, one, two)",
+    ),
+    "running": ("run(book, data, plan, rule)", "stages(book, data, plan, rule)"),
+    "pairings": ("paired(book, data, plan, pairing)",),
+    "forks": ("across(book, left, right)", "meet(book, left, right)", "good(book, left, right)"),
 }
 
 
