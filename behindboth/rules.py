@@ -104,7 +104,7 @@ def _row_form(thing):
 
 def _condition_form(thing):
     """Whether a thing is a condition of a rule."""
-    if not isinstance(thing, tuple) or not 2 <= len(thing) <= 3 or not isinstance(thing[0], str):
+    if not isinstance(thing, tuple) or not thing:
         return False
     if thing[0] == "worth":
         return len(thing) == 3 and number_below(thing[1], COLUMN_LIMIT) and number_below(thing[2], WORTH_LIMIT)

@@ -56,6 +56,12 @@ class Case(unittest.TestCase):
         self.assertIs(got, wanted)
 
 
+def meeting(sizes):
+    """Sources that all share the column 0, with so many rows that have one worth there."""
+    book = tuple((0, k + 1) for k in range(len(sizes)))
+    return book, tuple(tuple((7, row) for row in range(size)) for size in sizes)
+
+
 def random_book(random, most_sources, most_columns, most_in_scheme):
     book = []
     for _ in range(random.randint(1, most_sources)):

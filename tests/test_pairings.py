@@ -7,8 +7,7 @@ from time import perf_counter
 from behindboth.errors import BadBook, BadData, BadPairing, BadPlan, TooMany, Twice
 from behindboth.pairings import paired
 from behindboth.plans import plan_of
-from helpers import AB_BC, TRIANGLE, Case, in_order, plain_stages, random_book, random_data, random_part
-from test_whole import meeting
+from helpers import AB_BC, TRIANGLE, Case, in_order, meeting, plain_stages, random_book, random_data, random_part
 
 DATA = (((1, 5), (2, 6)), ((5, 7), (5, 8), (9, 9)))
 THREE = (((5, 6),), ((6, 7),), ((8, 7),))

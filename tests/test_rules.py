@@ -15,7 +15,8 @@ GOOD_CONDITIONS = (
     ("both", 0), ("both", 23), ("none", 0), ("none", 23), ("worth", 0, 0), ("worth", 23, 999999),
 )
 BAD_CONDITIONS = (
-    None, True, 0, "", "fork", (), ("fork",), ("fork", -1), ("fork", 100), ("fork", True), ("fork", None), ("fork", "0"),
+    None, True, 0, "", "fork", (), ("fork",), ("fork", -1), ("fork", 100), ("fork", True), ("fork", None),
+    ("fork", "0"),
     ("fork", 0, 0), ("least", -1), ("least", 100), ("least", False), ("least", 1, 1), ("left", 24), ("left", -1),
     ("left", True), ("left", 0, 0), ("left",), ("right", 24), ("right", None), ("both", 24), ("both", (0,)),
     ("none", 24), ("none", -1), ("worth", 0), ("worth", 24, 0), ("worth", 0, 1000000), ("worth", 0, -1),
@@ -70,7 +71,8 @@ class Answers(Case):
     def test_each_kind_of_condition(self):
         wanted = (
             (("fork", 1), True), (("fork", 0), False), (("left", 0), True), (("left", 3), False), (("left", 2), True),
-            (("right", 3), True), (("right", 0), False), (("both", 2), True), (("both", 0), False), (("both", 3), False),
+            (("right", 3), True), (("right", 0), False), (("both", 2), True), (("both", 0), False),
+            (("both", 3), False),
             (("both", 9), False), (("none", 9), True), (("none", 0), False), (("none", 3), False), (("none", 2), False),
             (("worth", 0, 5), True), (("worth", 0, 6), False), (("worth", 3, 9), True), (("worth", 2, 6), True),
             (("worth", 9, 0), False), (("least", 0), True), (("least", 1), True), (("least", 2), False),

@@ -9,9 +9,9 @@ from behindboth.plans import plan_of
 from behindboth.running import run, stages
 from behindboth.whole import whole
 from helpers import (
-    AB_BC, AB_BC_CD, F, TRIANGLE, Case, plain_run, random_book, random_data, random_part, random_plan, random_rule,
+    AB_BC, AB_BC_CD, F, TRIANGLE, Case, meeting, plain_run, random_book, random_data, random_part, random_plan,
+    random_rule,
 )
-from test_whole import meeting
 
 YES = (((), True),)
 BETWEEN = ((0, 1), (0, 2), (1, 2))
@@ -171,7 +171,8 @@ class Quick(Case):
             told = stages(self.BOOK, self.DATA, plan, self.RULE)
             self.assertEqual(len(told[-1]), 279)
             self.assertEqual(max(len(result) for result in told), 279)
-            self.assertEqual([tags for tags in told[-1] if tags.count(None) == 7], [(None, 3, None, None, 4) + (None,) * 4])
+            twos = [tags for tags in told[-1] if tags.count(None) == 7]
+            self.assertEqual(twos, [(None, 3, None, None, 4) + (None,) * 4])
             self.assertEqual(run(self.BOOK, self.DATA, plan, self.RULE), told[-1])
         self.assertLess(perf_counter() - began, 10)
 

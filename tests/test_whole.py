@@ -7,16 +7,12 @@ from time import perf_counter
 from behindboth.data import shown
 from behindboth.errors import BadBook, BadData, TooMany
 from behindboth.whole import is_whole, whole
-from helpers import AB_BC, AB_BC_CD, ODD, TRIANGLE, TWELVE, Case, plain_whole, random_book, random_data
+from helpers import (
+    AB_BC, AB_BC_CD, ODD, TRIANGLE, TWELVE, Case, meeting, plain_whole, random_book, random_data,
+)
 
 DATA = (((1, 5), (2, 6)), ((5, 7), (5, 8), (9, 9)))
 WHOLE = ((None, 2), (0, 0), (0, 1), (1, None))
-
-
-def meeting(sizes):
-    """Sources that all share the column 0, with so many rows that have one worth there."""
-    book = tuple((0, k + 1) for k in range(len(sizes)))
-    return book, tuple(tuple((7, row) for row in range(size)) for size in sizes)
 
 
 class Whole(Case):
@@ -51,7 +47,8 @@ class Whole(Case):
     def test_rows_that_hang_together_by_a_third_one(self):
         data = (((5, 1),), ((1, 2),), ((2, 7), (3, 7)))
         self.assertEqual(whole(AB_BC_CD, data), ((None, None, 1), (0, 0, 0)))
-        self.assertEqual(whole(AB_BC_CD, data[:1] + ((),) + data[2:]), ((None, None, 0), (None, None, 1), (0, None, None)))
+        data = (data[0], (), data[2])
+        self.assertEqual(whole(AB_BC_CD, data), ((None, None, 0), (None, None, 1), (0, None, None)))
 
     def test_beside_a_plain_search(self):
         random = Random(10)
@@ -91,6 +88,17 @@ class Many(Case):
         every = tuple(lot + (None,) for lot in lots)
         self.is_bool(False, is_whole(one_more, lone, ((None, None, None, 0),) + every))
         self.is_bool(False, is_whole(one_more, lone, every))
+
+    def test_3000_and_3001_found_one_by_one(self):
+        # For each power of two that 3000 is made of, so many sources have two rows with a worth of its own.
+        book = tuple((0, k + 1) for k in range(12))
+        data = [()] * 12
+        for worth, power in enumerate((11, 9, 8, 7, 5, 4, 3)):
+            for source in range(power):
+                data[source] += ((worth, 0), (worth, 1))
+        self.assertEqual(len(whole(book, tuple(data))), 3000)
+        data[11] += ((99, 0),)
+        self.refused(TooMany, 3000, whole, book, tuple(data))
 
     def test_far_too_many(self):
         began = perf_counter()
