@@ -60,3 +60,13 @@ def all_columns(schemes):
 def common(one, two):
     """What two rising tuples both have, rising."""
     return tuple([part for part in one if part in two])
+
+
+def partly(scheme, some):
+    """Whether a scheme has some, but not all, of some columns."""
+    return 0 < len(common(scheme, some)) < len(some)
+
+
+def struck(book, some):
+    """The schemes of a book without some columns; perhaps nothing is left of a scheme."""
+    return tuple([tuple([column for column in scheme if column not in some]) for scheme in book])

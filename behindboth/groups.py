@@ -1,7 +1,7 @@
 """Groups of sources, and how they hang together."""
 
 from behindboth.books import all_columns, common, made_book
-from behindboth.errors import BadGroup
+from behindboth.errors import Apart, BadGroup
 from behindboth.values import rising_below
 
 
@@ -31,13 +31,36 @@ def hangs(book, group):
     return len(pieces_in(book, group)) == 1
 
 
+def everyone(book):
+    """The group of all sources of a book."""
+    return tuple(range(len(book)))
+
+
+def without(group, source):
+    """A group without a source of it."""
+    return tuple([other for other in group if other != source])
+
+
+def need_hanging(book, group):
+    """Apart unless a group hangs together, of a book and a group that are known to be right."""
+    parts = pieces_in(book, group)
+    if len(parts) > 1:
+        raise Apart(parts[1][0])
+
+
+def need_joined(book):
+    """BadBook unless a thing is a book, Apart unless it hangs together."""
+    made_book(book)
+    need_hanging(book, everyone(book))
+
+
 def columns_in(book, group):
     """As group_columns, of a book and a group that are known to be right."""
     return all_columns([book[source] for source in group])
 
 
 def pieces_in(book, group):
-    """As pieces, of a book and a group that are known to be right."""
+    """As pieces, of a group that is known to be right, and of a book, or of what is left of its schemes."""
     found = []
     rest = group
     while rest:

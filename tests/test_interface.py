@@ -23,6 +23,15 @@ INTERFACE = {
     "running": ("run(book, data, plan, rule)", "stages(book, data, plan, rule)"),
     "pairings": ("paired(book, data, plan, pairing)",),
     "forks": ("across(book, left, right)", "meet(book, left, right)", "good(book, left, right)"),
+    "judge": ("plan_right(book, plan)", "judged(book, plan)"),
+    "papers": ("spoilt(book, plan, paper)",),
+    "splits": ("splits(book, group)",),
+    "planner": ("plan(book)",),
+    "rings": ("ring(book)", "why(book)", "made_ring(book, thing)"),
+    "kernel": (
+        "right_right(book, plan, zs)", "wrong_right(book, plan, paper)", "ring_right(book, sources, xs)",
+        "stuck_right(book, group)", "coverer_right(book, source, group)",
+    ),
 }
 
 
