@@ -1,8 +1,10 @@
 """Groups of sources, and how they hang together."""
 
 from behindboth.books import all_columns, common, made_book
-from behindboth.errors import Apart, BadGroup
+from behindboth.errors import Apart, BadGroup, TooMany
 from behindboth.values import rising_below
+
+MOST_COUNTED = 8
 
 
 def made_group(book, thing):
@@ -52,6 +54,12 @@ def need_joined(book):
     """BadBook unless a thing is a book, Apart unless it hangs together."""
     made_book(book)
     need_hanging(book, everyone(book))
+
+
+def need_few(book):
+    """TooMany if a book has so many sources that not all of its groups are looked at."""
+    if len(book) > MOST_COUNTED:
+        raise TooMany(len(book))
 
 
 def columns_in(book, group):

@@ -19,28 +19,28 @@ def fork_results(data, plan, pairs_at):
 
 def plan_result(data, plan, stages):
     """The result of a plan, the stages being those of its forks."""
-    return stages[-1] if stages else _rows_alone(data, plan)
+    return stages[-1] if stages else rows_alone(data, plan)
 
 
 def _put_results(data, plan, pairs_at, found):
     """Puts the results of the forks of a plan to those that are found; the result of the plan."""
     if not isinstance(plan, tuple):
-        return _rows_alone(data, plan)
+        return rows_alone(data, plan)
     left = _put_results(data, plan[0], pairs_at, found)
     right = _put_results(data, plan[1], pairs_at, found)
-    result = _merged(left, right, pairs_at(len(found), left, right))
+    result = merged(left, right, pairs_at(len(found), left, right))
     found.append(result)
     return result
 
 
-def _rows_alone(data, source):
+def rows_alone(data, source):
     """The result of a source: its rows, each with its tag alone."""
     ahead = (None,) * source
     behind = (None,) * (len(data) - source - 1)
     return tuple([ahead + (tag,) + behind for tag in range(len(data[source]))])
 
 
-def _merged(left, right, pairs):
+def merged(left, right, pairs):
     """The result of a fork: a row for each pair, and the rows that are in none."""
     lefts = {i: True for i, _ in pairs}
     rights = {j: True for _, j in pairs}

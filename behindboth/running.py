@@ -1,9 +1,8 @@
 """Plans run under a rule of blanks."""
 
-from behindboth.books import common
 from behindboth.data import filled, made_data
 from behindboth.errors import TooMany
-from behindboth.groups import columns_in
+from behindboth.forks import meet_in
 from behindboth.joining import MOST_RESULTS, fork_results, plan_result
 from behindboth.plans import forks, made_part
 from behindboth.rules import made_rule, open_answer, open_rows
@@ -22,12 +21,17 @@ def stages(book, data, plan, rule):
     sides = forks(plan)
 
     def pairs_at(fork, left, right):
-        z = common(columns_in(book, sides[fork][0]), columns_in(book, sides[fork][1]))
-        lefts = [filled(book, data, tags) for tags in left]
-        rights = [filled(book, data, tags) for tags in right]
-        return _pairs(rule, fork, z, lefts, rights)
+        return pairs_under(book, data, rule, fork, sides[fork], (left, right))
 
     return fork_results(data, plan, pairs_at)
+
+
+def pairs_under(book, data, rule, fork, sides, results):
+    """Which rows are paired at a fork under a rule: pairs of indices of the results of its sides."""
+    z = meet_in(book, sides[0], sides[1])
+    lefts = [filled(book, data, tags) for tags in results[0]]
+    rights = [filled(book, data, tags) for tags in results[1]]
+    return _pairs(rule, fork, z, lefts, rights)
 
 
 def _pairs(rule, fork, z, lefts, rights):

@@ -198,6 +198,19 @@ def random_part(random, book):
     return random_plan(random, sources)
 
 
+def random_pairing(random, book, data, plan):
+    """A pairing of a plan, with the result it leads to."""
+    entries = []
+
+    def pair(fork, sides, left, right):
+        every = [(i, j) for i in range(len(left)) for j in range(len(right))]
+        entries.append(tuple(sorted(random.sample(every, random.randint(0, min(len(every), 6))))))
+        return [(left[i], right[j]) for i, j in entries[-1]]
+
+    result = plain_stages(book, data, plan, pair)[1]
+    return tuple(entries), result
+
+
 def random_rule(random, most_columns, worths):
     rows = []
     for _ in range(random.randint(0, 5)):

@@ -104,18 +104,24 @@ def plain_is_ring(book, sources, xs):
     return True
 
 
-def plain_has_ring(book):
-    """Whether there is a ring, by a look at all rows of sources: each may close it by any column."""
+def plain_rings(book):
+    """All rings, by a look at all rows of sources: each may be closed by any column."""
     def goes_on(sources, xs):
-        if len(sources) > 2 and any(plain_is_ring(book, sources, xs + (x,)) for x in book[sources[-1]]):
-            return True
-        return any(
-            goes_on(sources + (s,), xs + (x,))
-            for s in range(len(book)) if s not in sources
-            for x in plain_shared(book, sources[-1], s)
-            if not any(x in book[t] for t in sources[:-1]) and not any(x in book[s] for x in xs)
-        )
-    return any(goes_on((s,), ()) for s in range(len(book)))
+        for x in book[sources[-1]]:
+            if plain_is_ring(book, sources, xs + (x,)):
+                yield sources, xs + (x,)
+        for s in range(len(book)):
+            if s not in sources:
+                for x in sorted(plain_shared(book, sources[-1], s)):
+                    if not any(x in book[t] for t in sources[:-1]) and not any(x in book[s] for x in xs):
+                        yield from goes_on(sources + (s,), xs + (x,))
+
+    for s in range(len(book)):
+        yield from goes_on((s,), ())
+
+
+def plain_has_ring(book):
+    return any(True for _ in plain_rings(book))
 
 
 def plain_can_go_last(book, group, source):
@@ -139,6 +145,43 @@ def plain_thirds(book):
         if p < q and set(book[r]) & both and both - set(book[r]):
             found.append((p, q, r))
     return tuple(found)
+
+
+def plain_parts(plan):
+    return [plan] if isinstance(plan, int) else [plan] + plain_parts(plan[0]) + plain_parts(plan[1])
+
+
+def plain_shows(book, plan):
+    groups = [plain_leaves(part) for part in plain_parts(plan)]
+    for p, q, r in plain_thirds(book):
+        if r in min([group for group in groups if p in group and q in group], key=len):
+            return False
+    return True
+
+
+def plain_linked(book, plan):
+    """Whether all forks of a plan have neighbours across."""
+    return all(any(plain_shared(book, i, j) for i in left for j in right) for left, right in plain_forks(plan))
+
+
+def linked_plan(random, book):
+    """A plan all forks of which have neighbours across, of a book that hangs together."""
+    parts = [(s, [s]) for s in range(len(book))]
+    while len(parts) > 1:
+        one, two = random.sample(parts, 2)
+        if any(plain_shared(book, i, j) for i in one[1] for j in two[1]):
+            parts = [part for part in parts if part not in (one, two)] + [((one[0], two[0]), one[1] + two[1])]
+    return parts[0][0]
+
+
+def plain_numbered(book, group):
+    """All plain right plans of a group, in the order in which they are numbered."""
+    if len(group) == 1:
+        return [group[0]]
+    return [
+        (one, two) for left, right in plain_splits(book, group)
+        for one in plain_numbered(book, left) for two in plain_numbered(book, right)
+    ]
 
 
 def joined_book(random, most_sources, most_columns, most_in_scheme):

@@ -32,6 +32,14 @@ INTERFACE = {
         "right_right(book, plan, zs)", "wrong_right(book, plan, paper)", "ring_right(book, sources, xs)",
         "stuck_right(book, group)", "coverer_right(book, source, group)",
     ),
+    "ringrows": ("ring_rows(book, ring)", "ring_whole(book, ring)", "beats(book, ring, plan)"),
+    "thirds": ("thirds(book)", "shows(book, plan)"),
+    "orders": (
+        "made_order(book, thing)", "order_right(book, order)", "order(book)", "stuck(book)", "any_plan(book)",
+        "orders_count(book)",
+    ),
+    "counts": ("count(book)", "nth(book, k)", "number(book, plan)"),
+    "costs": ("cost(book, data, plan, rule)", "cheapest(book, data)"),
 }
 
 

@@ -7,23 +7,12 @@ from time import perf_counter
 from behindboth.errors import BadBook, BadData, BadPairing, BadPlan, TooMany, Twice
 from behindboth.pairings import paired
 from behindboth.plans import plan_of
-from helpers import AB_BC, TRIANGLE, Case, in_order, meeting, plain_stages, random_book, random_data, random_part
+from helpers import (
+    AB_BC, TRIANGLE, Case, in_order, meeting, random_book, random_data, random_pairing, random_part,
+)
 
 DATA = (((1, 5), (2, 6)), ((5, 7), (5, 8), (9, 9)))
 THREE = (((5, 6),), ((6, 7),), ((8, 7),))
-
-
-def random_pairing(random, book, data, plan):
-    """A pairing of a plan, with the result it leads to."""
-    entries = []
-
-    def pair(fork, sides, left, right):
-        every = [(i, j) for i in range(len(left)) for j in range(len(right))]
-        entries.append(tuple(sorted(random.sample(every, random.randint(0, min(len(every), 6))))))
-        return [(left[i], right[j]) for i, j in entries[-1]]
-
-    result = plain_stages(book, data, plan, pair)[1]
-    return tuple(entries), result
 
 
 class Pairings(Case):
