@@ -45,11 +45,16 @@ def neighbours(book, i, j):
     return i != j and len(common(book[i], book[j])) > 0
 
 
+def need_source(book, thing):
+    """BadSource unless a thing is the number of a source of a book that is known to be right."""
+    if not number_below(thing, len(book)):
+        raise BadSource(thing)
+
+
 def _need_sources(book, i, j):
     made_book(book)
-    for thing in (i, j):
-        if not number_below(thing, len(book)):
-            raise BadSource(thing)
+    need_source(book, i)
+    need_source(book, j)
 
 
 def all_columns(schemes):

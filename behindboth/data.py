@@ -62,8 +62,7 @@ def have(tags):
 def shown(book, data, tags):
     """What tags show: for each column of the book its worth, or None for a blank."""
     made_tags(book, data, tags)
-    worths = filled(book, data, tags)
-    return tuple([worths.get(column) for column in all_columns(book)])
+    return shown_in(book, data, tags)
 
 
 def quarrel(book, data, one, two):
@@ -73,6 +72,20 @@ def quarrel(book, data, one, two):
     left = filled(book, data, one)
     right = filled(book, data, two)
     return any(column in right and right[column] != worth for column, worth in left.items())
+
+
+def shown_in(book, rows, tags):
+    """As shown, of a book and tags that are known to be right, and of the rows of each source by their tags."""
+    worths = filled(book, rows, tags)
+    return tuple([worths.get(column) for column in all_columns(book)])
+
+
+def shown_form(book, thing):
+    """Whether a thing looks like what tags of a book show: a worth or None for each column, not all None."""
+    if not isinstance(thing, tuple) or len(thing) != len(all_columns(book)):
+        return False
+    worths = [worth for worth in thing if worth is not None]
+    return len(worths) > 0 and all(number_below(worth, WORTH_LIMIT) for worth in worths)
 
 
 def filled(book, data, tags):
@@ -87,3 +100,8 @@ def filled(book, data, tags):
 def place(tags):
     """What tags are put in order by: None stands ahead of every number."""
     return tuple([-1 if tag is None else tag for tag in tags])
+
+
+def in_order(many):
+    """Some tags, or other tuples with None in them, in order."""
+    return tuple(sorted(many, key=place))

@@ -1,6 +1,6 @@
 """Results put together at the forks of a plan, whoever tells which rows are paired there."""
 
-from behindboth.data import place
+from behindboth.data import in_order
 from behindboth.errors import TooMany
 
 MOST_RESULTS = 3000
@@ -49,7 +49,7 @@ def merged(left, right, pairs):
     rows = [_both(left[i], right[j]) for i, j in pairs]
     rows.extend([tags for i, tags in enumerate(left) if i not in lefts])
     rows.extend([tags for j, tags in enumerate(right) if j not in rights])
-    return tuple(sorted(rows, key=place))
+    return in_order(rows)
 
 
 def _both(one, two):

@@ -1,6 +1,6 @@
 """The few rows of a ring that no plan merges rightly, whatever is paired."""
 
-from behindboth.data import place
+from behindboth.data import in_order
 from behindboth.plans import cut, forks, made_plan
 from behindboth.rings import made_ring
 
@@ -23,7 +23,7 @@ def ring_whole(book, ring):
     lots = []
     for i in range(1, len(sources)):
         lots.extend(_two_lots(book, sources, i))
-    return tuple(sorted(lots, key=place))
+    return in_order(lots)
 
 
 def beats(book, ring, plan):
@@ -51,4 +51,4 @@ def _two_lots(book, sources, i):
     for lacking in (sources[i - 1], sources[i]):
         stays = [source in sources and source != lacking for source in range(len(book))]
         lots.append(tuple([i - 1 if here else None for here in stays]))
-    return sorted(lots, key=place)
+    return in_order(lots)

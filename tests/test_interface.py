@@ -40,6 +40,26 @@ INTERFACE = {
     ),
     "counts": ("count(book)", "nth(book, k)", "number(book, plan)"),
     "costs": ("cost(book, data, plan, rule)", "cheapest(book, data)"),
+    "mends": ("renamed(book, source, column)", "mends(book)", "aside(book)"),
+    "parts": ("part_of(book, lots, group)", "join_of(book, lots, group)"),
+    "bare": (
+        "bare(book, data)", "coverer(book, source)", "told_back(book, rows, source)", "fillers(book, shown)",
+        "twins(book, source)",
+    ),
+    "questions": (
+        "made_question(book, thing)", "ask(book, data, question)", "ask_whole(book, data, lots, question)",
+    ),
+}
+# The classes, as (file, name): how they are made, and their methods.
+CLASSES = {
+    ("kept", "Kept"): (
+        "(book)", "put(self, source, row)", "take(self, source, tag)", "undo(self)", "redo(self)",
+        "rows(self, source)", "whole(self)", "data(self)", "news(self)",
+    ),
+    ("along", "Along"): (
+        "(book, plan)", "put(self, source, row)", "take(self, source, tag)", "rows(self, source)",
+        "stage(self, fork)", "touched(self)",
+    ),
 }
 
 
@@ -53,6 +73,17 @@ class Interface(unittest.TestCase):
                 function = getattr(module, name)
                 self.assertEqual(function.__module__, f"behindboth.{file}")
                 self.assertEqual(name + str(inspect.signature(function)), signature)
+
+    def test_classes(self):
+        for (file, name), (made, *methods) in CLASSES.items():
+            module = importlib.import_module(f"behindboth.{file}")
+            told = getattr(module, name)
+            self.assertEqual(told.__module__, f"behindboth.{file}")
+            self.assertEqual(str(inspect.signature(told)), made)
+            for signature in methods:
+                method = signature.split("(")[0]
+                self.assertIn(method, vars(told), "it is defined in the class itself")
+                self.assertEqual(method + str(inspect.signature(vars(told)[method])), signature)
 
 
 if __name__ == "__main__":

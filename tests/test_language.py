@@ -64,6 +64,20 @@ def bound_inside(tree):
     return found
 
 
+def classes():
+    return [(name, node) for name, tree in trees().items() for node in tree.body if isinstance(node, ast.ClassDef)]
+
+
+def methods(made):
+    return [node.name for node in made.body if isinstance(node, ast.FunctionDef)]
+
+
+def attributes(tree):
+    """The attributes that are assigned anywhere in a file or a class."""
+    return {node.attr for node in ast.walk(tree) if isinstance(node, ast.Attribute)
+            and isinstance(node.ctx, ast.Store)}
+
+
 class Language(unittest.TestCase):
 
     def test_files_and_characters(self):
@@ -137,10 +151,33 @@ class Language(unittest.TestCase):
                     self.assertIn(one, BUILTINS, f"L8 {name}")
 
     def test_methods(self):
+        own = [method for _, made in classes() for method in methods(made)]
         for name, tree in trees().items():
             for node in ast.walk(tree):
                 if isinstance(node, ast.Call) and isinstance(node.func, ast.Attribute):
-                    self.assertIn(node.func.attr, METHODS, f"L25 {name} {node.lineno}")
+                    self.assertIn(node.func.attr, METHODS + own, f"L25 {name} {node.lineno}")
+
+    def test_classes(self):
+        builtin = {word for made in (str, int, list, dict, set, bytes) for word in dir(made)} - {"__init__"}
+        for name, made in classes():
+            self.assertEqual(made.decorator_list, [], f"L5 {name}")
+            for node in made.body:
+                docstring = isinstance(node, ast.Expr) and isinstance(node.value, ast.Constant)
+                self.assertTrue(docstring or isinstance(node, ast.FunctionDef), f"L5 {name}")
+            self.assertEqual(len(methods(made)), len(set(methods(made))), f"L18 {name}")
+            self.assertEqual(attributes(made) & set(methods(made)), set(), f"L18 {name}")
+            for method in methods(made):
+                self.assertNotIn(method, builtin, f"L26 {name}")
+                self.assertTrue(method == "__init__" or not method.startswith("__"), f"L5 {name}")
+            for attribute in attributes(made):
+                self.assertNotIn(attribute, builtin, f"L26 {name}")
+
+    def test_attributes_are_assigned_by_some_class(self):
+        known = {word for _, made in classes() for word in attributes(made) | set(methods(made))}
+        for name, tree in trees().items():
+            for node in ast.walk(tree):
+                if isinstance(node, ast.Attribute) and isinstance(node.ctx, ast.Load):
+                    self.assertIn(node.attr, known | set(METHODS) | {"__class__", "__name__"}, f"L18 {name}")
 
     def test_strings(self):
         for name, tree in trees().items():
