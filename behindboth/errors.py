@@ -6,6 +6,8 @@ class Refused(ValueError):
 
     def __init__(self, what):
         self.what = what
+        # The name of the class, as a desk tells it.
+        self.label = self.__class__.__name__
 
 
 class BadBook(Refused):

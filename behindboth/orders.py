@@ -14,14 +14,14 @@ from behindboth.values import unlike_below
 def made_order(book, thing):
     """A thing that is an order of the sources of a book; BadOrder if it is none."""
     need_joined(book)
-    if not _order_form(book, thing):
+    if not order_form(book, thing):
         raise BadOrder(-1)
     return thing
 
 
 def order_right(book, order):
     """Whether an order is one of a book that hangs together, and its plan is right."""
-    return is_book(book) and _order_form(book, order) and plan_right(book, plan_of(order))
+    return is_book(book) and order_form(book, order) and plan_right(book, plan_of(order))
 
 
 def order(book):
@@ -51,7 +51,7 @@ def orders_count(book):
     return _orders_in(book, everyone(book), {})
 
 
-def _order_form(book, thing):
+def order_form(book, thing):
     """Whether a thing has each source of a book once."""
     return unlike_below(thing, len(book)) and len(thing) == len(book)
 

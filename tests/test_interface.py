@@ -49,6 +49,21 @@ INTERFACE = {
     "questions": (
         "made_question(book, thing)", "ask(book, data, question)", "ask_whole(book, data, lots, question)",
     ),
+    "housetexts": (
+        "made_house(thing)", "book_of(house)", "read_house(text)", "print_house(house)", "read_data(house, text)",
+        "print_data(house, data)",
+    ),
+    "plantexts": (
+        "read_plan(house, text)", "print_plan(house, plan)", "read_order(house, text)", "print_order(house, order)",
+    ),
+    "ruletexts": ("read_rule(house, text)", "print_rule(house, rule)"),
+    "papertexts": (
+        "read_judged(house, text)", "print_judged(house, told)", "read_why(house, text)", "print_why(house, told)",
+    ),
+    "questiontexts": (
+        "read_question(house, text)", "print_question(house, question)", "print_lots(house, lots)",
+    ),
+    "desk": ("desk_of(house, data)",),
 }
 # The classes, as (file, name): how they are made, and their methods.
 CLASSES = {
@@ -60,6 +75,7 @@ CLASSES = {
         "(book, plan)", "put(self, source, row)", "take(self, source, tag)", "rows(self, source)",
         "stage(self, fork)", "touched(self)",
     ),
+    ("desk", "Desk"): ("(house)", "row(self, text)", "text(self)"),
 }
 
 

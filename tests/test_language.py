@@ -59,6 +59,8 @@ def bound_inside(tree):
                     found.append(node.arg)
                 if isinstance(node, ast.Name) and isinstance(node.ctx, ast.Store):
                     found.append(node.id)
+                if isinstance(node, ast.ExceptHandler) and node.name:
+                    found.append(node.name)
                 if isinstance(node, ast.FunctionDef) and node is not function:
                     found.append(node.name)
     return found
