@@ -27,7 +27,8 @@ def _put(desk, reader):
     source = reader.named(source_names(desk.house))
     row = reader.worths(len(desk.book[source]))
     reader.end()
-    return f"ok {desk.kept.put(source, row)}"
+    tag = desk.kept.put(source, row)
+    return f"ok {tag}"
 
 
 def _take(desk, reader):
@@ -164,7 +165,8 @@ class Desk:
         """Does or asks what a row of text tells; the answer, as a text."""
         try:
             reader = Reader(text)
-            action = ANSWERS[reader.one_of(list(ANSWERS))]
+            word = reader.one_of(list(ANSWERS))
+            action = ANSWERS[word]
             return action(self, reader)
         except Refused as error:
             return f"refused: {error.label} {_what_text(error.what)}"

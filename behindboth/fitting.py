@@ -23,7 +23,7 @@ class Fitting:
         self._nears = []
         # For each source and each other one: where it has the columns of both, and its rows by their worths there.
         self._joints = [[[one.index(column) for column in common(one, two)] for two in book] for one in book]
-        self._alike = [[{} for _ in book] for _ in book]
+        self._alike = [[{} for two in book] for one in book]
 
     def put(self, source, tag, row):
         """Puts a row of a source, with a tag that no row of it has."""
@@ -124,8 +124,9 @@ class Fitting:
     def _flip(self, source, row, bit):
         """Puts a row to what is known of the other ones, or takes it off there."""
         mask = 1 << bit
-        for other, alike in enumerate(self._alike[source]):
+        for other in range(len(self._alike)):
             worths = self._worths(source, other, row)
+            alike = self._alike[source][other]
             alike[worths] = alike.get(worths, 0) ^ mask
             if not alike[worths]:
                 del alike[worths]
@@ -167,7 +168,7 @@ class Fitting:
         starts = []
         for row in _bits_in(self._reach(lot) & self._room(root) & ~lot):
             rest = lot & self._fits[row]
-            if not root & ~rest and rest | 1 << row not in known:
+            if not root & ~rest and (rest | 1 << row) not in known:
                 piece = self._piece(row, rest)
                 if not root & ~piece:
                     starts.append(piece)
@@ -207,7 +208,7 @@ class Fitting:
             at = _least_bit(edge)
             fresh = self._nears[at] & within & ~piece
             piece = piece | fresh
-            edge = edge ^ 1 << at | fresh
+            edge = (edge ^ 1 << at) | fresh
         return piece
 
 

@@ -1,13 +1,13 @@
 """Parts and joins of groups, told out of lots."""
 
 from behindboth.books import made_book
-from behindboth.data import WORTH_LIMIT, in_order
+from behindboth.data import in_order
 from behindboth.errors import BadLots
 from behindboth.groups import made_group, pieces_in
 from behindboth.values import number_below
 
-# Tags in lots that are handed in have the same limit as worths.
-TAG_LIMIT = WORTH_LIMIT
+# Tags in lots that are handed in are below this.
+TAG_LIMIT = 1000000
 # Pieces are compared with so many at once, as each of these takes a bit for each of its rows.
 BLOCK = 4096
 

@@ -366,25 +366,30 @@ class Limits(Case):
         self.assertEqual(kept.put(1, (6, 6)), 25)
 
     def test_a_take_that_is_refused(self):
-        # One row holds two stars together, of 1 and of 1600 lots; 1400 more are apart.
-        book = ((0, 2), (0, 3), (0, 1), (1, 4), (1, 5), (6, 7), (6, 8))
+        # One row holds two stars together, of 1 and of 1600 lots; 1399 more are apart: 39 * 35 and 34.
+        book = ((0, 2), (0, 3), (0, 1), (1, 4), (1, 5), (6, 7), (6, 8), (9,))
         kept = Kept(book)
         kept.put(2, (0, 0))
         kept.put(0, (0, 0))
         for number in range(40):
             kept.put(3, (0, number))
             kept.put(4, (0, number))
-        for number in range(40):
+        for number in range(39):
             kept.put(5, (0, number))
         for number in range(35):
             kept.put(6, (0, number))
+        for number in range(35):
+            kept.put(7, (number,))
         self.assertEqual(len(kept.whole()), 3000)
         before = all_told(kept, book)
         self.refused(TooMany, 3000, kept.take, 2, 0)
         self.assertEqual(all_told(kept, book), before)
-        kept.take(6, 3)
+        kept.take(7, 3)
         kept.take(2, 0)
-        self.assertEqual(len(kept.whole()), 1 + 1600 + 1360)
+        self.assertEqual(len(kept.whole()), 3000)
+        self.refused(TooMany, 3000, kept.put, 7, (3,))
+        kept.undo()
+        self.assertEqual(len(kept.whole()), 2999)
 
     def test_far_too_many(self):
         began = perf_counter()

@@ -114,6 +114,7 @@ class Language(unittest.TestCase):
                 if isinstance(node, ast.Assign):
                     self.assertEqual(len(node.targets), 1, f"L3 {name}")
                     self.assertIsInstance(node.targets[0], ast.Name, f"L3 {name}")
+                    self.assertNotIsInstance(node.value, (ast.Name, ast.Call), f"L3 {name}")
 
     def test_imports(self):
         files = trees()

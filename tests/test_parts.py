@@ -134,6 +134,16 @@ class Edges(Case):
         self.assertEqual(len(part_of(TWELVE, alone, (0, 2, 4, 6, 8, 10))), 48000)
         self.assertLess(perf_counter() - began, 20)
 
+    def test_more_pieces_than_are_compared_at_once(self):
+        alone = tuple((k, None, None) for k in range(4096))
+        pair = ((4095, 7, None), (5, 7, None), (4096, 7, None))
+        for first in range(3):
+            more = pair[first:] + pair[:first]
+            wanted = tuple(sorted(alone[:5] + alone[6:4095] + more, key=in_order))
+            self.assertEqual(part_of(AB_BC_CD, alone + more, (0, 1)), wanted)
+            self.assertEqual(part_of(AB_BC_CD, more + alone, (0, 1)), wanted)
+            self.assertEqual(part_of(AB_BC_CD, (alone + more) * 2, (0,)), alone + ((4096, None, None),))
+
     def test_parts_with_many_sets_of_sources(self):
         began = perf_counter()
         book = tuple((0, k + 1) for k in range(12))
